@@ -1,0 +1,219 @@
+"""Point 2 and the interface: what is handed in, what is told, and by which names."""
+
+import copy
+import inspect
+import unittest
+from collections import namedtuple
+from enum import IntEnum
+
+from tests.helper import FORTY, HALF, SOME_ROWS, told_pair, told_row, written_ways
+from turntell import errors, rows, turns
+
+INTERFACE = {
+    rows: {
+        "is_row": "(thing)", "heads": "(row)", "heads_to": "(row, place)", "nth": "(row, number)", "added": "(row)",
+        "last_place": "(row)", "shows": "(row, place)", "turned_over": "(row, place)", "row_of": "(places)",
+        "about": "(row, n)",
+    },
+    turns: {
+        "turn": "(pair, who)", "rests": "(pair)", "done": "(pair, word)", "least_word": "(word)",
+        "by_turns": "(pair, *, first='other', many=10)",
+    },
+}
+
+# Of each name of the interface: the function, and one call of it by the names of its arguments.
+CALLS = [
+    (rows.is_row, {"thing": [(1, 2), (4, 5)]}, True),
+    (rows.heads, {"row": [(1, 2), (4, 5)]}, 4),
+    (rows.heads_to, {"row": [(1, 2), (4, 5)], "place": 4}, 3),
+    (rows.nth, {"row": [(1, 2), (4, 5)], "number": 3}, 4),
+    (rows.added, {"row": [(1, 2), (4, 5)]}, 12),
+    (rows.last_place, {"row": [(1, 2), (4, 5)]}, 5),
+    (rows.shows, {"row": [(1, 2), (4, 5)], "place": 3}, False),
+    (rows.turned_over, {"row": [(1, 2), (4, 5)], "place": 3}, [(1, 5)]),
+    (rows.row_of, {"places": [5, 1, 4]}, [(1, 1), (4, 5)]),
+    (rows.about, {"row": [(1, 2), (4, 5)], "n": 6}, [(1, 1), (4, 4)]),
+    (turns.turn, {"pair": ([(1, 2)], [(4, 5)]), "who": "one"}, ([(1, 1)], [(4, 5)])),
+    (turns.rests, {"pair": ([(1, 2)], [])}, ["one"]),
+    (turns.done, {"pair": ([(1, 2)], [(4, 5)]), "word": "12"}, ([(1, 1)], [(1, 1), (4, 5)])),
+    (turns.least_word, {"word": "1221121"}, "121"),
+]
+
+
+def asked_all(pair, first, many):
+    """All that is asked of a pair, by one list each."""
+    one, other = pair
+    told = [rows.is_row(one), rows.heads(one), rows.heads_to(one, 3), rows.added(one), rows.last_place(one),
+            rows.shows(one, 3), rows.turned_over(one, 3), rows.turned_over(one, 0), rows.about(one, FORTY),
+            rows.turned_over(other, 1), turns.turn(pair, "one"), turns.turn(pair, "other"), turns.rests(pair),
+            turns.done(pair, "1221"), turns.done(pair, ""), turns.by_turns(pair, first=first, many=many)]
+    return told + ([rows.nth(one, 1)] if one else [])
+
+
+def lists_in(thing):
+    """All lists that stand in a thing, itself too."""
+    found = [thing] if isinstance(thing, list) else []
+    if isinstance(thing, (list, tuple)):
+        for part in thing:
+            found += lists_in(part)
+    return found
+
+
+def spoil(thing):
+    """Change every list that stands in a thing."""
+    for found in lists_in(thing):
+        found.append("spoilt")
+        found.reverse()
+
+
+class Interface(unittest.TestCase):
+    def test_names_arguments_and_files(self):
+        for module, names in INTERFACE.items():
+            for name, arguments in names.items():
+                with self.subTest(name):
+                    deed = getattr(module, name)
+                    self.assertEqual(str(inspect.signature(deed)), arguments)
+                    self.assertEqual(deed.__module__, module.__name__)
+
+    def test_by_names_and_by_places(self):
+        self.assertEqual({deed.__name__ for deed, _, _ in CALLS} | {"by_turns"},
+                         {name for names in INTERFACE.values() for name in names})
+        for deed, named, due in CALLS:
+            with self.subTest(deed.__name__):
+                self.assertEqual(deed(**named), due)
+                self.assertEqual(deed(*named.values()), due)
+                self.assertEqual(deed(**dict(reversed(named.items()))), due)
+                self.assertIs(type(deed(**named)), type(due))
+
+    def test_by_turns_by_names_alone(self):
+        pair = ([(1, 1)], [])
+        due = [([(1, 1)], []), ([(1, 1)], [(1, 1)])]
+        self.assertEqual(turns.by_turns(pair=pair, first="other", many=1), due)
+        self.assertEqual(turns.by_turns(many=1, pair=pair), due)
+        self.assertEqual(turns.by_turns(pair, many=1), due)
+        for call in [lambda: turns.by_turns(pair, "other"), lambda: turns.by_turns(pair, "other", 1)]:
+            self.assertRaises(TypeError, call)
+
+
+class Handed(unittest.TestCase):
+    def test_nothing_handed_in_is_changed(self):
+        for one in SOME_ROWS:
+            for other in SOME_ROWS:
+                for pair in [([list(s) for s in one], [list(s) for s in other]), [list(one), tuple(other)]]:
+                    before = copy.deepcopy(pair)
+                    told = asked_all(pair, "one", 5)
+                    self.assertEqual(pair, before)
+                    self.assertEqual([type(row) for row in pair], [type(row) for row in before])
+                    spoil(told)
+                    self.assertEqual(pair, before)
+
+    def test_places_handed_in_stay(self):
+        places = [3, 1, 2, 9]
+        told = rows.row_of(places)
+        self.assertEqual(places, [3, 1, 2, 9])
+        spoil(told)
+        self.assertEqual(places, [3, 1, 2, 9])
+        self.assertEqual(rows.row_of(places), [(1, 3), (9, 9)])
+
+    def test_nothing_handed_in_is_kept(self):
+        stretch = [2, 4]
+        row = [stretch]
+        pair = [row, row]
+        told = asked_all(pair, "one", 5)
+        before = copy.deepcopy(told)
+        stretch[1] = 9
+        row.append([20, 21])
+        pair.append([])
+        self.assertEqual(told, before)
+
+    def test_refused_stays_too(self):
+        row = [[1, 2], [3, 4]]
+        places = [2, 2]
+        for kind, call in [(errors.NoRow, lambda: rows.heads(row)), (errors.NoPair, lambda: turns.rests((row, row))),
+                           (errors.NoPlace, lambda: rows.row_of(places))]:
+            self.assertRaises(kind, call)
+        self.assertEqual((row, places), ([[1, 2], [3, 4]], [2, 2]))
+
+
+class Told(unittest.TestCase):
+    def test_every_list_told_is_a_new_one(self):
+        row = [(1, 2), (4, 5)]
+        for pair in [(row, row), (row, []), ([], [])]:
+            for call in [lambda: rows.turned_over(pair[0], 0), lambda: rows.turned_over(pair[0], 3),
+                         lambda: rows.about(pair[0], 5), lambda: rows.row_of([]), lambda: rows.row_of([1]),
+                         lambda: turns.turn(pair, "one"), lambda: turns.turn(pair, "other"),
+                         lambda: turns.rests(pair), lambda: turns.done(pair, ""), lambda: turns.done(pair, "1"),
+                         lambda: turns.by_turns(pair, many=0), lambda: turns.by_turns(pair, many=20)]:
+                told = call()
+                before = copy.deepcopy(told)
+                spoil(told)
+                self.assertEqual(call(), before)
+
+    def test_no_list_stands_twice(self):
+        row = [(1, 2), (4, 5)]
+        for pair in [(row, row), (row, []), ([], []), ([], row)]:
+            handed = {id(found) for found in lists_in(pair)}
+            for told in [turns.turn(pair, "one"), turns.turn(pair, "other"), turns.done(pair, ""),
+                         turns.by_turns(pair, many=20), turns.by_turns(pair, first="one", many=20)]:
+                found = [id(one) for one in lists_in(told)]
+                self.assertEqual(len(found), len(set(found)))
+                self.assertFalse(handed & set(found))
+
+    def test_lists_and_tuples_in_one_anothers_place(self):
+        for one in SOME_ROWS:
+            for other in SOME_ROWS[:4]:
+                due = asked_all((one, other), "other", 4)
+                for way in written_ways(one):
+                    for side in written_ways(other):
+                        self.assertEqual(asked_all((way, side), "other", 4), due)
+                        self.assertEqual(asked_all([way, side], "other", 4), due)
+
+    def test_kinds_of_what_is_told(self):
+        pair = [((1, 2), [4, 5]), [[7, 9]]]
+        for told in [rows.turned_over(pair[0], 0), rows.turned_over(pair[0], 9), rows.about(pair[0], 9),
+                     rows.row_of((3, 1))]:
+            self.assertTrue(told_row(told))
+        for told in [turns.turn(pair, "one"), turns.turn(pair, "other"), turns.done(pair, "")]:
+            self.assertTrue(told_pair(told))
+        self.assertIs(type(turns.by_turns(pair)), list)
+        self.assertIs(type(turns.rests(pair)), list)
+
+    def test_what_is_told_may_be_handed_in(self):
+        row = rows.row_of([2 * k for k in range(1, 301)])
+        self.assertEqual(rows.heads(row), 300)
+        self.assertEqual(rows.about(rows.about(row, 700), 700), row)
+        pair = turns.done((row, rows.about(row, 600)), "12" * 40)
+        self.assertEqual(turns.done(pair, "21" * 40), (row, rows.about(row, 600)))
+
+
+class Wholes(unittest.TestCase):
+    def test_kin_of_ints_lists_and_tuples(self):
+        few = IntEnum("few", "ONE TWO")
+        span = namedtuple("span", "first last")
+        self.assertIs(rows.is_row([span(few.ONE, few.TWO)]), True)
+        self.assertEqual(rows.heads_to([span(1, 2)], few.ONE), 1)
+        self.assertEqual(rows.turned_over([span(1, 2)], few.TWO), [(1, 1)])
+        self.assertTrue(told_pair(turns.turn(span([], []), "one")))
+
+    def test_truths_are_no_whole_numbers(self):
+        row = [(1, 2)]
+        for truth in (True, False):
+            for kind, call in [
+                (errors.NoPlace, lambda: rows.shows(row, truth)), (errors.NoPlace, lambda: rows.heads_to(row, truth)),
+                (errors.NoPlace, lambda: rows.turned_over(row, truth)), (errors.NoNumber, lambda: rows.nth(row, truth)),
+                (errors.NoPlaces, lambda: rows.about([], truth)), (errors.NoPlace, lambda: rows.row_of([truth])),
+                (errors.NoNumber, lambda: turns.by_turns((row, row), many=truth)),
+            ]:
+                self.assertRaises(kind, call)
+
+    def test_sizes(self):
+        row = [(HALF + 3 * k, HALF + 3 * k + 1) for k in range(30)]
+        self.assertEqual(rows.heads(row), 60)
+        self.assertEqual(rows.added(row), 60 * HALF + sum(6 * k + 1 for k in range(30)))
+        self.assertRaises(errors.NoNumber, rows.nth, row, 10 ** 2500 - 1)
+        self.assertRaises(errors.NoPlaces, rows.about, row, HALF)
+        self.assertEqual(rows.shows(row, 10 ** 2500), False)
+
+
+if __name__ == "__main__":
+    unittest.main()
