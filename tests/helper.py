@@ -1,6 +1,9 @@
 """What the tests share: odd things to hand in, and rows told a second way, by sets of places."""
 
+import unittest
 from itertools import combinations
+
+from turntell import errors
 
 FORTY = 10 ** 40 - 1  # the greatest number of forty figures
 HALF = 10 ** 39  # the least one
@@ -34,6 +37,25 @@ def anything():
     ]
 
 
+class RefusalCase(unittest.TestCase):
+    """A test case that asks for refusals."""
+
+    def refused(self, kind, deed, *args, **named):
+        """The error of a call, which is of just this class of refusals."""
+        with self.assertRaises(ValueError) as caught:
+            deed(*args, **named)
+        error = caught.exception
+        self.assertIs(type(error), kind)
+        self.assertIsInstance(error, errors.TurnError)
+        for other in errors.TurnError.__subclasses__():
+            self.assertEqual(isinstance(error, other), other is kind)
+        return error
+
+    def refused_many(self, deed, *args, **named):
+        """A row of too many stretches is refused."""
+        self.assertEqual(self.refused(errors.TooMany, deed, *args, **named).many, 51)
+
+
 NO_ROWS = [
     {}, set(), "", "ab", 0, 5, [1], [1, 2], (1, 2), [()], [[]], [(1,)], [(1, 2, 3)], [(1, 2), (4,)], [(1, 2), (4, 5, 6)],
     [(0, 1)], [(-1, 1)], [(0, 0)], [(2, 1)], [(1, 0)], [(5, 3)], [(1, 2), (3, 4)], [(1, 2), (2, 4)],
@@ -48,6 +70,39 @@ SOME_ROWS = [
     [], [(1, 1)], [(2, 2)], [(1, 3)], [(3, 7)], [(1, 1), (3, 3)], [(2, 4), (6, 6), (8, 11)],
     [(HALF, FORTY)], [(1, HALF)], [(1, 5), (HALF, HALF), (HALF + 2, FORTY)],
     [(4 * k + 1, 4 * k + 3) for k in range(30)],
+]
+
+NO_PAIRS = [
+    [], (), ([],), [[]], ([], [], []), [[], [], []], ([(1, 2)], [(4, 5)], [(7, 8)]), [(1, 2), (4, 5)], [(1, 2)],
+    ((1, 2), (4, 5)), {}, "", "12", {1: [], 2: []}, iter([[], []]),
+] + [([], thing) for thing in NO_ROWS] + [(thing, [(1, 2)]) for thing in NO_ROWS] + anything()
+NO_WHOS = [
+    0, 1, 2, "", "One", "other ", "on", "1", "2", "oneother", b"one", ["one"], ("other",), {"one"}, [],
+] + anything()
+
+# Rows of thirty stretches, the last two of places of forty figures throughout, with a head at place 1 and without.
+THIRTY = [
+    [(4 * k + 1, 4 * k + 3) for k in range(30)],
+    [(2 * k, 2 * k) for k in range(1, 31)],
+    [(HALF * k // 4 + k * k, HALF * (2 * k + 1) // 8 - 7 ** k) for k in range(4, 34)],
+    [(1, HALF)] + [(HALF * k // 4 + k * k, HALF * (2 * k + 1) // 8 - 7 ** k) for k in range(5, 34)],
+]
+TENTH = HALF // 10
+FIFTY = [
+    [(2 * k, 2 * k) for k in range(1, 51)],
+    [(3 * k + 1, 3 * k + 2) for k in range(50)],
+    [(TENTH * k, TENTH * k + 10 ** (k // 2)) for k in range(1, 51)],
+]
+FIFTY_ONE = [
+    [(2 * k, 2 * k) for k in range(1, 52)],
+    [(1, 1)] + [(TENTH * k, TENTH * k + 10 ** (k // 2)) for k in range(1, 51)],
+]
+FAR_ROWS = SOME_ROWS + THIRTY + FIFTY
+
+# Pairs on lines of rows that show heads and tails by turns for long.
+LONG_PAIRS = [
+    ([(HALF + 1, 2 * HALF)], [(1, HALF)]), ([(1, HALF)], [(HALF + 1, 2 * HALF)]), ([(103, 204)], [(1, 102)]),
+    ([], FIFTY_ONE[0]), (FIFTY_ONE[1], []),
 ]
 
 
@@ -110,3 +165,47 @@ def written_ways(row):
     return [
         outer(inner(stretch) for stretch in row) for outer in (list, tuple) for inner in (list, tuple)
     ] + [[list(stretch) if at % 2 else tuple(stretch) for at, stretch in enumerate(row)]]
+
+
+def line_walked(places):
+    """All pairs of the line of a row, turn by turn, the one with the row itself first, up to a rest."""
+    now, who, pairs = (set(places), set()), "other", []
+    while not pairs or pairs[-1] != now:
+        pairs.append(now)
+        now, who = turn_of_sets(now, who), "one" if who == "other" else "other"
+    return [pair_from(sets) for sets in pairs]
+
+
+def lines_within(n):
+    """All rows within n places, each with all pairs of its line."""
+    return [(row_from(places), line_walked(places)) for places in rows_within(n)]
+
+
+def alone_walked(places):
+    """A row and all that it comes to alone, turn by turn, up to that without heads."""
+    now, rows = set(places), []
+    while now:
+        rows.append(now)
+        now = now ^ {len(now)}
+    return [row_from(row) for row in rows] + [[]]
+
+
+def ladder_climbed(row, n):
+    """The ladder of a row within n places, by stretches: between them tails, in them heads."""
+    one, other, free = 1, 1, 1
+    for first, last in row:
+        other += 2 * one * (first - free)
+        one += 2 * other * (last + 1 - first)
+        free = last + 1
+    return (one, other + 2 * one * (n + 1 - free))
+
+
+def way_climbed(row):
+    """How many turns the line of a row is long, by its ladder."""
+    return ladder_climbed(row, row[-1][1] if row else 0)[0] - 1
+
+
+def spots(way):
+    """Numbers of turns on a line of a way: the ends, those beside them, the half and some between."""
+    some = {0, 1, 2, 3, way // 7, way // 3, way // 2 - 1, way // 2, way // 2 + 1, way * 5 // 8, way - 2, way - 1, way}
+    return sorted(spot for spot in some if 0 <= spot <= way)

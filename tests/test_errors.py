@@ -4,7 +4,12 @@ import copy
 import pickle
 import unittest
 
+from tests.helper import FIFTY_ONE, HALF, LONG_PAIRS
 from turntell import errors
+from turntell.alone import alone_behind, meeting, steps
+from turntell.far import first_time, pair_at, pair_behind, round_of, until_rest
+from turntell.ladders import ladder, row_by
+from turntell.lines import ahead, how_far, line_of, word_between
 from turntell.rows import about, heads_to, nth, row_of, shows, turned_over
 from turntell.turns import by_turns, done, least_word, rests, turn
 
@@ -105,6 +110,55 @@ class Order(unittest.TestCase):
     def test_pair_of_no_rows_is_no_pair(self):
         for pair in [([(0, 1)], []), ([], [(0, 1)]), (None, []), ([], None)]:
             self.refused("NoPair", lambda: turn(pair, "one"))
+
+    def test_ladders(self):
+        self.refused("NoRow", lambda: ladder(None, None))
+        self.refused("NoRow", lambda: ladder(n=0, row=[(2, 1)]))
+        self.refused("NoPlaces", lambda: ladder([(1, 2)], 1))
+        self.refused("NoNumber", lambda: row_by(None, None))
+
+    def test_pairs_ahead_of_too_many_ahead_of_too_long(self):
+        pair, long, way = ([], []), LONG_PAIRS[0], ([(1, HALF)], [])
+        for deed in (ahead, word_between):
+            self.refused("NoPair", lambda: deed(None, None))
+            self.refused("NoPair", lambda: deed(long, None))
+            self.refused("NoPair", lambda: deed(None, long))
+            self.refused("NoPair", lambda: deed(other=([(0, 1)], []), pair=long))
+            self.refused("TooMany", lambda: deed(long, long))
+            self.refused("TooMany", lambda: deed(long, pair))
+            self.refused("TooMany", lambda: deed(pair, long))
+            self.refused("TooMany", lambda: deed((FIFTY_ONE[0], []), ([], FIFTY_ONE[0])))
+        self.refused("TooLong", lambda: word_between(way, way[::-1]))
+        for deed in (line_of, how_far, round_of):
+            self.refused("NoPair", lambda: deed(([(1, 1), (2, 2)], [])))
+            self.refused("TooMany", lambda: deed(long))
+
+    def test_far_turns(self):
+        pair, long = ([], []), LONG_PAIRS[0]
+        self.refused("NoRow", lambda: pair_at(None, None))
+        self.refused("NoTurns", lambda: pair_at([], 1))
+        self.refused("NoPair", lambda: pair_behind(None, None, None))
+        self.refused("NoWho", lambda: pair_behind(long, None, None))
+        self.refused("NoWho", lambda: pair_behind(turns=-1, who="", pair=pair))
+        self.refused("NoTurns", lambda: pair_behind(long, "one", -1))
+        self.refused("TooMany", lambda: pair_behind(long, "one", 0))
+        self.refused("NoPair", lambda: first_time(None, None, None))
+        self.refused("NoWho", lambda: first_time(long, None, None))
+        self.refused("NoWho", lambda: first_time(other=None, who="three", pair=pair))
+        self.refused("NoPair", lambda: first_time(long, "one", None))
+        self.refused("TooMany", lambda: first_time(long, "one", pair))
+        self.refused("TooMany", lambda: first_time(pair, "one", long))
+        self.refused("NoPair", lambda: until_rest(None, None))
+        self.refused("NoWho", lambda: until_rest(long, None))
+        self.refused("TooMany", lambda: until_rest(long, "other"))
+
+    def test_one_row_alone(self):
+        self.refused("NoRow", lambda: steps(None, many=None))
+        self.refused("NoNumber", lambda: steps([], many=None))
+        self.refused("NoRow", lambda: alone_behind(None, None))
+        self.refused("NoTurns", lambda: alone_behind([], None))
+        self.refused("NoRow", lambda: meeting([], None))
+        self.refused("NoRow", lambda: meeting(None, []))
 
 
 if __name__ == "__main__":

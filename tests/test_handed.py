@@ -6,8 +6,8 @@ import unittest
 from collections import namedtuple
 from enum import IntEnum
 
-from tests.helper import FORTY, HALF, SOME_ROWS, told_pair, told_row, written_ways
-from turntell import errors, rows, turns
+from tests.helper import FORTY, HALF, SOME_ROWS, THIRTY, told_pair, told_row, way_climbed, written_ways
+from turntell import alone, errors, far, ladders, lines, rows, turns
 
 INTERFACE = {
     rows: {
@@ -19,7 +19,21 @@ INTERFACE = {
         "turn": "(pair, who)", "rests": "(pair)", "done": "(pair, word)", "least_word": "(word)",
         "by_turns": "(pair, *, first='other', many=10)",
     },
+    ladders: {"ladder": "(row, n)", "way_of": "(row)", "row_by": "(one, other)"},
+    lines: {
+        "line_of": "(pair)", "how_far": "(pair)", "ahead": "(pair, other)", "word_between": "(pair, other)",
+        "sum_kept": "(pair)",
+    },
+    far: {
+        "pair_at": "(row, turns)", "pair_behind": "(pair, who, turns)", "round_of": "(pair)",
+        "first_time": "(pair, who, other)", "until_rest": "(pair, who)",
+    },
+    alone: {
+        "step": "(row)", "steps": "(row, *, many=10)", "comers": "(row)", "runs": "(row)", "row_with": "(row)",
+        "turns_alone": "(row)", "alone_behind": "(row, turns)", "meeting": "(row, other)", "halfway": "(row)",
+    },
 }
+BY_NAME_ALONE = {"by_turns", "steps"}
 
 # Of each name of the interface: the function, and one call of it by the names of its arguments.
 CALLS = [
@@ -37,7 +51,55 @@ CALLS = [
     (turns.rests, {"pair": ([(1, 2)], [])}, ["one"]),
     (turns.done, {"pair": ([(1, 2)], [(4, 5)]), "word": "12"}, ([(1, 1)], [(1, 1), (4, 5)])),
     (turns.least_word, {"word": "1221121"}, "121"),
+    (ladders.ladder, {"row": [(1, 2)], "n": 3}, (5, 11)),
+    (ladders.way_of, {"row": [(1, 2)]}, 4),
+    (ladders.row_by, {"one": 5, "other": 11}, ([(1, 2)], 3)),
+    (lines.line_of, {"pair": ([(2, 2)], [(1, 2)])}, [(1, 2)]),
+    (lines.how_far, {"pair": ([(2, 2)], [(1, 2)])}, 3),
+    (lines.ahead, {"pair": ([], [(1, 2)]), "other": ([(1, 2)], [(2, 2)])}, -3),
+    (lines.word_between, {"pair": ([], [(1, 2)]), "other": ([(1, 2)], [(2, 2)])}, "121"),
+    (lines.sum_kept, {"pair": ([(2, 2)], [(1, 2)])}, 3),
+    (far.pair_at, {"row": [(1, 2)], "turns": 3}, ([(2, 2)], [(1, 2)])),
+    (far.pair_behind, {"pair": ([(1, 2)], []), "who": "one", "turns": 4}, ([(2, 2)], [(1, 2)])),
+    (far.round_of, {"pair": ([(2, 2)], [(1, 2)])}, 10),
+    (far.first_time, {"pair": ([(1, 2)], []), "who": "one", "other": ([(2, 2)], [(1, 2)])}, 4),
+    (far.until_rest, {"pair": ([(2, 2)], [(1, 2)]), "who": "other"}, 3),
+    (alone.step, {"row": [(4, 5)]}, [(2, 2), (4, 5)]),
+    (alone.comers, {"row": [(1, 2)]}, [[(1, 3)], [(2, 2)]]),
+    (alone.runs, {"row": [(4, 5)]}, [(2, 5)]),
+    (alone.row_with, {"row": [(4, 5)]}, [(5, 5)]),
+    (alone.turns_alone, {"row": [(4, 5)]}, 14),
+    (alone.alone_behind, {"row": [(4, 5)], "turns": 12}, [(1, 2)]),
+    (alone.meeting, {"row": [(4, 5)], "other": [(2, 2)]}, ([(1, 2)], 12, 1)),
+    (alone.halfway, {"row": [(4, 5)]}, ([(5, 5)], [(5, 5)])),
 ]
+
+
+def answer(deed, *args):
+    """What a call tells, or the refusal that it meets, by its name and fields."""
+    try:
+        return deed(*args)
+    except errors.TurnError as error:
+        return type(error).__name__, vars(error)
+
+
+def asked_far(pair):
+    """All that is asked of a pair, beyond single turns."""
+    one, other = pair
+    back = (other, one)
+    told = [ladders.ladder(one, FORTY), ladders.way_of(one), lines.sum_kept(pair), far.pair_at(one, 0),
+            far.pair_at(one, ladders.way_of(one) // 3), alone.step(one), alone.steps(one, many=3), alone.comers(one),
+            alone.runs(one), alone.row_with(one), alone.turns_alone(one), alone.alone_behind(one, 0),
+            alone.alone_behind(one, 7), alone.meeting(one, other), alone.meeting(one, one), alone.halfway(one)]
+    for deed in (lines.line_of, lines.how_far, far.round_of):
+        told.append(answer(deed, pair))
+    for deed in (lines.ahead, lines.word_between):
+        told += [answer(deed, pair, pair), answer(deed, pair, back)]
+    for who in ("one", "other"):
+        told += [answer(far.pair_behind, pair, who, 0), answer(far.pair_behind, pair, who, 10 ** 90)]
+        told += [answer(far.first_time, pair, who, pair), answer(far.first_time, pair, who, back)]
+        told.append(answer(far.until_rest, pair, who))
+    return told
 
 
 def asked_all(pair, first, many):
@@ -47,7 +109,7 @@ def asked_all(pair, first, many):
             rows.shows(one, 3), rows.turned_over(one, 3), rows.turned_over(one, 0), rows.about(one, FORTY),
             rows.turned_over(other, 1), turns.turn(pair, "one"), turns.turn(pair, "other"), turns.rests(pair),
             turns.done(pair, "1221"), turns.done(pair, ""), turns.by_turns(pair, first=first, many=many)]
-    return told + ([rows.nth(one, 1)] if one else [])
+    return told + asked_far(pair) + ([rows.nth(one, 1)] if one else [])
 
 
 def lists_in(thing):
@@ -76,7 +138,7 @@ class Interface(unittest.TestCase):
                     self.assertEqual(deed.__module__, module.__name__)
 
     def test_by_names_and_by_places(self):
-        self.assertEqual({deed.__name__ for deed, _, _ in CALLS} | {"by_turns"},
+        self.assertEqual({deed.__name__ for deed, _, _ in CALLS} | BY_NAME_ALONE,
                          {name for names in INTERFACE.values() for name in names})
         for deed, named, due in CALLS:
             with self.subTest(deed.__name__):
@@ -93,6 +155,12 @@ class Interface(unittest.TestCase):
         self.assertEqual(turns.by_turns(pair, many=1), due)
         for call in [lambda: turns.by_turns(pair, "other"), lambda: turns.by_turns(pair, "other", 1)]:
             self.assertRaises(TypeError, call)
+
+
+    def test_steps_by_names_alone(self):
+        self.assertEqual(alone.steps(row=[(2, 2)], many=2), [[(2, 2)], [(1, 2)], [(1, 1)]])
+        self.assertEqual(alone.steps(many=1, row=[(2, 2)]), [[(2, 2)], [(1, 2)]])
+        self.assertRaises(TypeError, lambda: alone.steps([(2, 2)], 2))
 
 
 class Handed(unittest.TestCase):
@@ -139,7 +207,15 @@ class Told(unittest.TestCase):
     def test_every_list_told_is_a_new_one(self):
         row = [(1, 2), (4, 5)]
         for pair in [(row, row), (row, []), ([], [])]:
-            for call in [lambda: rows.turned_over(pair[0], 0), lambda: rows.turned_over(pair[0], 3),
+            calls = [lambda deed=deed: deed(pair[0]) for deed in
+                     (alone.step, alone.steps, alone.comers, alone.runs, alone.row_with, alone.halfway)]
+            calls += [lambda far_on=far_on: far.pair_behind(pair, "one", far_on) for far_on in (0, 1, 9)]
+            for call in calls + [
+                         lambda: lines.line_of(pair), lambda: far.pair_at(pair[0], 0), lambda: ladders.row_by(5, 11),
+                         lambda: far.pair_at(pair[1], ladders.way_of(pair[1])), lambda: ladders.row_by(1, 1),
+                         lambda: alone.alone_behind(pair[0], 0), lambda: alone.alone_behind(pair[0], 99),
+                         lambda: alone.meeting(pair[0], pair[1]),
+                         lambda: rows.turned_over(pair[0], 0), lambda: rows.turned_over(pair[0], 3),
                          lambda: rows.about(pair[0], 5), lambda: rows.row_of([]), lambda: rows.row_of([1]),
                          lambda: turns.turn(pair, "one"), lambda: turns.turn(pair, "other"),
                          lambda: turns.rests(pair), lambda: turns.done(pair, ""), lambda: turns.done(pair, "1"),
@@ -154,7 +230,11 @@ class Told(unittest.TestCase):
         for pair in [(row, row), (row, []), ([], []), ([], row)]:
             handed = {id(found) for found in lists_in(pair)}
             for told in [turns.turn(pair, "one"), turns.turn(pair, "other"), turns.done(pair, ""),
-                         turns.by_turns(pair, many=20), turns.by_turns(pair, first="one", many=20)]:
+                         turns.by_turns(pair, many=20), turns.by_turns(pair, first="one", many=20),
+                         lines.line_of(pair), far.pair_at(row, 0), far.pair_at([], 0), far.pair_behind(pair, "one", 0),
+                         far.pair_behind(pair, "other", 5), alone.step(pair[0]), alone.steps(pair[0], many=30),
+                         alone.comers(pair[0]), alone.meeting(pair[0], pair[1]), alone.halfway(pair[0]),
+                         alone.runs(pair[0]), alone.row_with(pair[0]), alone.alone_behind(pair[0], 0)]:
                 found = [id(one) for one in lists_in(told)]
                 self.assertEqual(len(found), len(set(found)))
                 self.assertFalse(handed & set(found))
@@ -170,11 +250,26 @@ class Told(unittest.TestCase):
 
     def test_kinds_of_what_is_told(self):
         pair = [((1, 2), [4, 5]), [[7, 9]]]
+        row = pair[1]
         for told in [rows.turned_over(pair[0], 0), rows.turned_over(pair[0], 9), rows.about(pair[0], 9),
-                     rows.row_of((3, 1))]:
+                     rows.row_of((3, 1)), lines.line_of(pair), ladders.row_by(5, 11)[0], alone.step(row),
+                     alone.runs(row), alone.row_with(row), alone.alone_behind(row, 0), alone.alone_behind(row, 2),
+                     alone.meeting(row, row)[0], alone.meeting(row, pair[0])[0]]:
             self.assertTrue(told_row(told))
-        for told in [turns.turn(pair, "one"), turns.turn(pair, "other"), turns.done(pair, "")]:
+        for told in [turns.turn(pair, "one"), turns.turn(pair, "other"), turns.done(pair, ""), far.pair_at(row, 0),
+                     far.pair_at(row, 5), far.pair_behind(pair, "one", 0), far.pair_behind(pair, "one", 1),
+                     alone.halfway(row)]:
             self.assertTrue(told_pair(told))
+        for told in [alone.steps(row), alone.comers(row)]:
+            self.assertIs(type(told), list)
+            self.assertTrue(all(map(told_row, told)))
+        for told in [ladders.ladder(row, 9), ladders.row_by(5, 11), alone.meeting(row, row)]:
+            self.assertIs(type(told), tuple)
+        for told in [ladders.way_of(row), lines.how_far(pair), lines.ahead(pair, pair), lines.sum_kept(pair),
+                     far.round_of(pair), far.first_time(pair, "one", pair), far.until_rest(pair, "one"),
+                     alone.turns_alone(row), *ladders.ladder(row, 9), *alone.meeting(row, row)[1:]]:
+            self.assertIs(type(told), int)
+        self.assertIs(type(lines.word_between(pair, pair)), str)
         self.assertIs(type(turns.by_turns(pair)), list)
         self.assertIs(type(turns.rests(pair)), list)
 
@@ -184,6 +279,25 @@ class Told(unittest.TestCase):
         self.assertEqual(rows.about(rows.about(row, 700), 700), row)
         pair = turns.done((row, rows.about(row, 600)), "12" * 40)
         self.assertEqual(turns.done(pair, "21" * 40), (row, rows.about(row, 600)))
+
+    def test_what_is_told_of_any_size_may_be_handed_in(self):
+        row = rows.row_of([HALF + 3 * k for k in range(300)])
+        way = ladders.way_of(row)
+        self.assertEqual(way, way_climbed(row))
+        pair = far.pair_at(row, way // 3)
+        self.assertEqual(turns.turn(pair, "other" if way // 3 % 2 == 0 else "one"), far.pair_at(row, way // 3 + 1))
+        self.assertEqual(lines.sum_kept(pair), rows.added(row))
+        self.assertEqual(answer(lines.how_far, pair), ("TooMany", {"many": 51}))
+        self.assertEqual(alone.runs(alone.row_with(row)), row)
+        self.assertEqual(alone.row_with(alone.runs(row)), row)
+        line = alone.runs(THIRTY[2])
+        self.assertEqual(far.pair_at(line, ladders.way_of(line) // 2), (THIRTY[2], THIRTY[2]))
+        told, n = ladders.row_by(*ladders.ladder(THIRTY[2], FORTY))
+        there = lines.how_far(far.pair_at(told, ladders.way_of(told) // 3 * 2))
+        self.assertEqual(there, ladders.way_of(told) // 3 * 2)
+        pair = far.pair_behind((told, []), "one", ladders.ladder(told, n)[1] * there)
+        self.assertEqual(far.pair_behind(pair, "other", far.round_of(pair) * there), pair)
+        self.assertEqual(ladders.row_by(*ladders.ladder(told, n)), (told, n))
 
 
 class Wholes(unittest.TestCase):
@@ -203,6 +317,11 @@ class Wholes(unittest.TestCase):
                 (errors.NoPlace, lambda: rows.turned_over(row, truth)), (errors.NoNumber, lambda: rows.nth(row, truth)),
                 (errors.NoPlaces, lambda: rows.about([], truth)), (errors.NoPlace, lambda: rows.row_of([truth])),
                 (errors.NoNumber, lambda: turns.by_turns((row, row), many=truth)),
+                (errors.NoPlaces, lambda: ladders.ladder([], truth)), (errors.NoNumber, lambda: ladders.row_by(truth, 1)),
+                (errors.NoNumber, lambda: ladders.row_by(1, truth)), (errors.NoTurns, lambda: far.pair_at(row, truth)),
+                (errors.NoTurns, lambda: far.pair_behind((row, row), "one", truth)),
+                (errors.NoNumber, lambda: alone.steps(row, many=truth)),
+                (errors.NoTurns, lambda: alone.alone_behind(row, truth)),
             ]:
                 self.assertRaises(kind, call)
 

@@ -3,7 +3,7 @@
 import unittest
 
 from tests.helper import (
-    FORTY, HALF, NO_ROWS, SOME_ROWS, anything, places_of, row_from, rows_within, told_row, written_ways,
+    FORTY, HALF, NO_ROWS, SOME_ROWS, RefusalCase, anything, places_of, row_from, rows_within, told_row, written_ways,
 )
 from turntell import errors
 from turntell.rows import (
@@ -14,16 +14,7 @@ SMALL = 7
 FAR = [(1, 5), (HALF, HALF), (HALF + 2, FORTY)]
 
 
-class RowCase(unittest.TestCase):
-    def refused(self, kind, deed, *args, **named):
-        with self.assertRaises(kind) as caught:
-            deed(*args, **named)
-        self.assertIs(type(caught.exception), kind)
-        self.assertIsInstance(caught.exception, errors.TurnError)
-        self.assertIsInstance(caught.exception, ValueError)
-
-
-class IsRow(RowCase):
+class IsRow(RefusalCase):
     """[5]"""
 
     def test_rows(self):
@@ -56,7 +47,7 @@ class IsRow(RowCase):
                     self.refused(errors.NoRow, call, thing)
 
 
-class Told(RowCase):
+class Told(RefusalCase):
     """[6]"""
 
     def test_all_small_rows(self):
@@ -116,7 +107,7 @@ class Told(RowCase):
                 self.refused(errors.NoNumber, nth, row, thing)
 
 
-class TurnedOver(RowCase):
+class TurnedOver(RefusalCase):
     """[6]"""
 
     def test_all_small_rows(self):
@@ -154,7 +145,7 @@ class TurnedOver(RowCase):
                 self.assertEqual(turned_over(way, 0), row)
 
 
-class RowOf(RowCase):
+class RowOf(RefusalCase):
     """[7]"""
 
     def test_all_small_rows(self):
@@ -183,7 +174,7 @@ class RowOf(RowCase):
                 self.refused(errors.NoPlace, row_of, thing)
 
 
-class About(RowCase):
+class About(RefusalCase):
     """[7]"""
 
     def test_all_small_rows(self):

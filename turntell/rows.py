@@ -1,7 +1,7 @@
 """Rows of coins, told as lists of stretches (first, last) of places that show heads.
 
-The functions is_whole, given_row, count_heads and flipped serve the other files, too; the last two are for
-rows that given_row has let pass, and check nothing.
+The functions is_whole, given_row, check_places, count_heads, last_of and flipped serve the other files, too;
+the last three are for rows that given_row has let pass, and check nothing.
 """
 
 from turntell.errors import NoNumber, NoPlace, NoPlaces, NoRow
@@ -43,6 +43,12 @@ def check_place(place, least):
     """Refuse what is no place from the least one on."""
     if not is_whole(place, least):
         raise NoPlace("a place is due")
+
+
+def check_places(n, stretches):
+    """Refuse what is no number of places from the last one of stretches on."""
+    if not is_whole(n, last_of(stretches)):
+        raise NoPlaces("a number of places from the row's last one on is due")
 
 
 def heads(row):
@@ -145,8 +151,7 @@ def row_of(places):
 def about(row, n):
     """The row turned about within n places: heads where the row, from place n down, shows none."""
     stretches = given_row(row)
-    if not is_whole(n, last_of(stretches)):
-        raise NoPlaces("a number of places from the row's last one on is due")
+    check_places(n, stretches)
     gaps = []
     free = 1
     for first, last in stretches + [(n + 1, n + 1)]:

@@ -1,13 +1,14 @@
 """Turns: of a pair of rows each tells, by how many heads it shows, which coin of the other is turned.
 
-The functions given_pair, check_who, after_turn and not_who serve the other files, too; the last two
-are for what the first two have let pass, and check nothing.
+The functions given_pair, check_who, check_many, check_turns, after_turn and not_who serve the other files, too;
+the last two are for what the ones ahead of them have let pass, and check nothing.
 """
 
-from turntell.errors import NoNumber, NoPair, NoWho, NoWord
+from turntell.errors import NoNumber, NoPair, NoTurns, NoWho, NoWord
 from turntell.rows import count_heads, flipped, given_row, is_row, is_whole
 
 WHO_BY_SIGN = {"1": "one", "2": "other"}
+SIGN_BY_WHO = {"one": "1", "other": "2"}
 MOST_TURNS = 299
 
 
@@ -31,6 +32,18 @@ def check_word(word):
     """Refuse what is no word."""
     if not isinstance(word, str) or not all([sign in WHO_BY_SIGN for sign in word]):
         raise NoWord("a text of the signs 1 and 2 is due")
+
+
+def check_many(many):
+    """Refuse what is no number of turns that are told one by one."""
+    if not is_whole(many, 0) or many > MOST_TURNS:
+        raise NoNumber("a number of turns from 0 to 299 is due")
+
+
+def check_turns(turns):
+    """Refuse what is no number of turns, however many."""
+    if not is_whole(turns, 0):
+        raise NoTurns("a whole number from 0 on is due")
 
 
 def not_who(who):
@@ -84,8 +97,7 @@ def by_turns(pair, *, first="other", many=10):
     """The list of pairs ahead of and behind each of so many turns, by turns."""
     now = given_pair(pair)
     check_who(first)
-    if not is_whole(many, 0) or many > MOST_TURNS:
-        raise NoNumber("a number of turns from 0 to 299 is due")
+    check_many(many)
     pairs = [now]
     who = first
     for _ in range(many):
