@@ -5,7 +5,7 @@ from itertools import groupby
 
 from tests.helper import (
     FAR_ROWS, FIFTY_ONE, FORTY, HALF, NO_ROWS, THIRTY, RefusalCase, alone_walked, anything, line_walked, places_of,
-    row_from, rows_within, told_pair, told_row, way_climbed, written_ways,
+    row_from, rows_within, told_pair, told_row, written_ways,
 )
 from turntell import errors
 from turntell.alone import (
@@ -231,7 +231,7 @@ class Meeting(RefusalCase):
     """[21]"""
 
     def test_all_small_rows(self):
-        some = [(row_from(places), alone_walked(places)) for places in rows_within(6)]
+        some = [(row_from(places), alone_walked(places)) for places in rows_within(SMALL)]
         for row, walked in some:
             for other, beside in some:
                 turns = next(turns for turns, now in enumerate(walked) if now in beside)

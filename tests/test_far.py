@@ -207,6 +207,22 @@ class FirstTime(RefusalCase):
                     due = pairs.index(other) if other in pairs else None
                     self.assertEqual(first_time(pair_from(sets), who, other), due)
 
+    def test_all_lines_within_seven_places(self):
+        for row, pairs in lines_within(7):
+            # The round, from the first end on: the other one turns first, and each turn at an end rests once.
+            walked = pairs + pairs[::-1]
+            for far, pair in enumerate(pairs):
+                self.assertEqual(round_of(pair), len(walked))
+                for who in BOTH:
+                    at = far if (who == "other") == (far % 2 == 0) else len(walked) - 1 - far
+                    rest = len(pairs) - 1 - at % len(pairs)
+                    self.assertEqual(until_rest(pair, who), rest)
+                    turns = far * far + 3 * len(row)
+                    behind = walked[(at + turns) % len(walked)]
+                    self.assertEqual(pair_behind(pair, who, turns), behind)
+                    due = (walked[at:] + walked[:at]).index(behind)
+                    self.assertEqual(first_time(pair, who, behind), due)
+
     def test_by_hand(self):
         near, middle, end = ([(1, 1)], []), ([(1, 1)], [(1, 1)]), ([], [(1, 1)])
         self.assertEqual([first_time(near, "other", pair) for pair in (near, middle, end)], [0, 1, 2])

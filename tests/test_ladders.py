@@ -69,7 +69,7 @@ class Ladder(RefusalCase):
         self.assertEqual(ladder([(1, HALF)], FORTY), (2 * HALF + 1, 1 + 2 * (FORTY - HALF) * (2 * HALF + 1)))
 
     def test_way(self):
-        for places in rows_within(6):
+        for places in rows_within(SMALL):
             self.assertEqual(way_of(row_from(places)), len(line_walked(places)) - 1)
         self.assertEqual([way_of([]), way_of([(1, 1)]), way_of([(1, FORTY)])], [0, 2, 2 * FORTY])
         for row in FAR_ROWS:

@@ -112,6 +112,20 @@ class Ahead(RefusalCase):
                     self.assertEqual(done(first, word), second)
                     self.assertEqual(least_word(word), word)
 
+    def test_all_lines_within_seven_places(self):
+        before = []
+        for _, pairs in lines_within(7):
+            for far, pair in enumerate(pairs):
+                there = far * far % len(pairs)
+                self.assertEqual(ahead(pair, pairs[there]), there - far)
+                word = word_between(pair, pairs[there])
+                self.assertEqual(len(word), abs(there - far))
+                self.assertEqual(done(pair, word), pairs[there])
+                if before:
+                    self.assertIsNone(ahead(pair, before[far % len(before)]))
+                    self.assertIsNone(word_between(before[far % len(before)], pair))
+            before = pairs
+
     def test_by_hand(self):
         self.assertEqual(ahead(([(1, 1)], []), ([], [(1, 1)])), 2)
         self.assertEqual(ahead(([], [(1, 1)]), ([(1, 1)], [])), -2)
@@ -173,7 +187,7 @@ class SumKept(RefusalCase):
     """[15]"""
 
     def test_all_small_pairs(self):
-        for row, pairs in lines_within(6):
+        for row, pairs in lines_within(7):
             for pair in pairs:
                 self.assertEqual(sum_kept(pair), added(row))
 
