@@ -80,6 +80,15 @@ NO_WHOS = [
     0, 1, 2, "", "One", "other ", "on", "1", "2", "oneother", b"one", ["one"], ("other",), {"one"}, [],
 ] + anything()
 
+NO_TURNS = anything() + ["", "0", [], [1], (1,), -1, -10 ** 2499]
+
+KINDS = [(0, 0), (0, 1), (1, 0), (1, 1)]
+NO_KINDS = [
+    (), [], (0,), [1], (0, 0, 0), [0, 1, 1], (0, 2), (2, 0), (2, 2), (-1, 0), (0, -1), (True, 0), (0, False),
+    (True, False), [False, 1], (0.0, 1), (1, 1.0), ("0", "1"), "01", "", b"01", {0: 1, 1: 0}, {0, 1}, 0, 1, (None, 0),
+    (0, None), ((0, 0), (0, 0)), [[], []], [0, []], range(2), (0, Prickly()), (FORTY, 0), (0, FORTY),
+] + anything()
+
 # Rows of thirty stretches, the last two of places of forty figures throughout, with a head at place 1 and without.
 THIRTY = [
     [(4 * k + 1, 4 * k + 3) for k in range(30)],
@@ -103,6 +112,15 @@ FAR_ROWS = SOME_ROWS + THIRTY + FIFTY
 LONG_PAIRS = [
     ([(HALF + 1, 2 * HALF)], [(1, HALF)]), ([(1, HALF)], [(HALF + 1, 2 * HALF)]), ([(103, 204)], [(1, 102)]),
     ([], FIFTY_ONE[0]), (FIFTY_ONE[1], []),
+]
+
+# Pairs within places whose line of a kind, each of another one, is that of a row of heads and tails by turns for long:
+# each is what a layer leaves of the one ahead.
+LONG_WITHIN = [
+    (2 * HALF, (0, 0), ([(HALF + 1, 2 * HALF)], [(1, HALF)])),
+    (2 * HALF - 1, (0, 1), ([(HALF + 1, 2 * HALF - 1)], [(1, HALF)])),
+    (2 * HALF - 2, (1, 1), ([(HALF + 1, 2 * HALF - 2)], [(1, HALF - 1)])),
+    (2 * HALF - 3, (1, 0), ([(HALF, 2 * HALF - 3)], [(1, HALF - 2)])),
 ]
 
 
@@ -165,6 +183,42 @@ def written_ways(row):
     return [
         outer(inner(stretch) for stretch in row) for outer in (list, tuple) for inner in (list, tuple)
     ] + [[list(stretch) if at % 2 else tuple(stretch) for at, stretch in enumerate(row)]]
+
+
+def turn_of_kind(n, kind, sets, who):
+    """A turn of a kind within n places, told by sets of places."""
+    one, other = set(sets[0]), set(sets[1])
+    every = set(range(1, n + 1))
+    if who == "one":
+        one ^= {len(other) + kind[0]} & every
+    else:
+        other ^= {len(one) + kind[1]} & every
+    return (one, other)
+
+
+def ends_of_kind(n, kind, places):
+    """Both ends of the line of a kind of a row within n places, by sets of places."""
+    row, every = set(places), set(range(1, n + 1))
+    turned = {place for place in every if n + 1 - place not in row}
+    return {
+        (0, 0): ((row, set()), (set(), row)), (0, 1): ((row, set()), (every, turned)),
+        (1, 0): ((set(), row), (turned, every)), (1, 1): ((turned, every), (every, turned)),
+    }[kind]
+
+
+def leader(kind, far):
+    """Who leads on from a pair so far on a line of a kind: the first turn is that which does not rest at its end."""
+    first, second = ("one", "other") if kind == (1, 0) else ("other", "one")
+    return second if far % 2 else first
+
+
+def kind_walked(n, kind, places):
+    """All pairs of the line of a kind of a row within n places, turn by turn from its first end, up to a rest."""
+    now, pairs = ends_of_kind(n, kind, places)[0], []
+    while not pairs or pairs[-1] != now:
+        pairs.append(now)
+        now = turn_of_kind(n, kind, now, leader(kind, len(pairs) - 1))
+    return [pair_from(sets) for sets in pairs]
 
 
 def line_walked(places):

@@ -3,7 +3,7 @@
 import unittest
 
 from tests.helper import (
-    FAR_ROWS, FIFTY, FIFTY_ONE, FORTY, HALF, LONG_PAIRS, NO_PAIRS, NO_ROWS, NO_WHOS, THIRTY, RefusalCase, anything,
+    FAR_ROWS, FIFTY, FIFTY_ONE, FORTY, HALF, LONG_PAIRS, NO_PAIRS, NO_ROWS, NO_TURNS, NO_WHOS, THIRTY, RefusalCase,
     lines_within, pair_from, pairs_within, spots, told_pair, turn_of_sets, way_climbed, written_ways,
 )
 from turntell import errors
@@ -12,7 +12,6 @@ from turntell.lines import how_far, line_of
 from turntell.turns import turn
 
 BOTH = ("one", "other")
-NO_TURNS = anything() + ["", "0", [], [1], (1,), -1, -10 ** 2499]
 
 
 def contrary(who):

@@ -1,7 +1,7 @@
 """Ladders: the two numbers that the places of a row make, and the row that two numbers tell.
 
-The functions strips_of, row_of_strips, climbed, way_up and check_stretches serve the other files, too; but for
-the last one they check nothing.
+The functions strips_of, row_of_strips, climbed, rungs_within, way_up and check_stretches serve the other files,
+too; but for the last one they check nothing.
 A strip is a tuple (coin, many) of like coins side by side, its coin 1 for heads and 0 for tails.
 """
 

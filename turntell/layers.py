@@ -4,8 +4,9 @@ Take the last coin off each row of a pair within n places. What is left is a pai
 two coins are still counted: a turn of the one is by the heads left of the other one and r more, a turn of the
 other one by those left of the one and s more, where r (of the other one) and s (of the one) are 1 if the coin
 taken shows heads, else 0. So what is left is of the kind (r, s), as point 23 of the document tells kinds; the
-whole pair is of the kind (0, 0). Turns that reach no coin taken keep what is left on one line of its kind; at
-the ends of that line a coin taken is turned, and what is left goes on along a line of another kind.
+whole pair is of the kind (0, 0), or of another one where lines of that kind are asked for. Turns that reach no
+coin taken keep what is left on one line of its kind; at the ends of that line a coin taken is turned, and what
+is left goes on along a line of another kind.
 
 It is so in each kind, if of the one the last coin is taken where r is 0, the first one where r is 1, and of the
 other one likewise by s: so the counts and the places that are left stay in step. Such a layer, two coins, leads
@@ -91,14 +92,18 @@ def next_layer(kind, ones, others):
 
 
 def layers_of(pair, bounded):
-    """The layers of a pair from the first one taken on; if bounded, a row of too many stretches is refused.
+    """The layers of a pair among turns that no number of places bounds."""
+    return layers_within(max([last_of(row) for row in pair]), OUTSIDE, pair, bounded)
+
+
+def layers_within(n, outer, pair, bounded):
+    """The layers of a pair of a kind within n places; if bounded, a row of too many stretches is refused.
 
     It is refused on the way: four kinds in a ring, which tell heads and tails by turns, are told layer by layer.
     """
     one, other = pair
-    n = max(last_of(one), last_of(other))
     ones, others = strips_of(one, n), strips_of(other, n)
-    kind = OUTSIDE
+    kind = outer
     layers = []
     stretches = coin = 0
     while ones:
@@ -154,12 +159,17 @@ def line_told(layers):
 
 
 def pair_on(stretches, turns):
-    """The pair behind so many turns on the line of a row."""
-    strips = strips_of(stretches, last_of(stretches))
+    """The pair behind so many turns on the line of a row, which no number of places bounds."""
+    return pair_on_within(last_of(stretches), OUTSIDE, stretches, turns)
+
+
+def pair_on_within(n, outer, stretches, turns):
+    """The pair behind so many turns, from its first end on, on the line of a kind of a row within n places."""
+    strips = strips_of(stretches, n)
     ladders = [(1, 1)]
     for coin, many in strips:
         ladders.append(climbed(ladders[-1], coin, many))
-    kind, far = OUTSIDE, turns
+    kind, far = outer, turns
     layers = []
     for at in reversed(range(len(strips))):
         found, far = layers_at(kind, far, strips[at], ladders[at])

@@ -1,6 +1,6 @@
 """Rows of coins, told as lists of stretches (first, last) of places that show heads.
 
-The functions is_whole, given_row, check_places, count_heads, last_of and flipped serve the other files, too;
+The functions is_whole, given_row, check_place, check_places, count_heads, last_of and flipped serve the other files;
 the last three are for rows that given_row has let pass, and check nothing.
 """
 

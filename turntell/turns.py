@@ -1,11 +1,11 @@
 """Turns: of a pair of rows each tells, by how many heads it shows, which coin of the other is turned.
 
-The functions given_pair, check_who, check_many, check_turns, after_turn and not_who serve the other files, too;
-the last two are for what the ones ahead of them have let pass, and check nothing.
+The functions given_pair, given_pair_within, check_who, check_many, check_turns, after_turn and not_who serve the
+other files, too; the last two are for what the ones ahead of them have let pass, and check nothing.
 """
 
 from turntell.errors import NoNumber, NoPair, NoTurns, NoWho, NoWord
-from turntell.rows import count_heads, flipped, given_row, is_row, is_whole
+from turntell.rows import count_heads, flipped, given_row, is_row, is_whole, last_of
 
 WHO_BY_SIGN = {"1": "one", "2": "other"}
 SIGN_BY_WHO = {"one": "1", "other": "2"}
@@ -20,6 +20,14 @@ def given_pair(pair):
     if not is_row(one) or not is_row(other):
         raise NoPair("both of a pair are rows")
     return given_row(one), given_row(other)
+
+
+def given_pair_within(n, pair):
+    """A copy of a pair that is handed in; one beyond n places is refused like what is no pair."""
+    one, other = given_pair(pair)
+    if max(last_of(one), last_of(other)) > n:
+        raise NoPair("a pair within the places is due")
+    return one, other
 
 
 def check_who(who):
