@@ -4,13 +4,17 @@ import copy
 import pickle
 import unittest
 
-from tests.helper import FIFTY_ONE, HALF, LONG_PAIRS
+from tests.helper import FIFTY_ONE, FORTY, HALF, LONG_PAIRS, LONG_WITHIN
 from turntell import errors
 from turntell.alone import alone_behind, meeting, steps
 from turntell.far import first_time, pair_at, pair_behind, round_of, until_rest
+from turntell.kinds import ends_within, line_within, pair_within, pairs_within, turn_within
 from turntell.ladders import ladder, row_by
 from turntell.lines import ahead, how_far, line_of, word_between
+from turntell.numbered import many_of, number_of, pair_of
 from turntell.rows import about, heads_to, nth, row_of, shows, turned_over
+from turntell.tables import Table
+from turntell.texts import read_deeds, read_pair, read_row, show_pair, show_row
 from turntell.turns import by_turns, done, least_word, rests, turn
 
 WITH_TEXT = ["NoRow", "NoPlace", "NoNumber", "NoPlaces", "NoPair", "NoWho", "NoWord", "NoTurns", "NoKind", "NoneYet"]
@@ -159,6 +163,70 @@ class Order(unittest.TestCase):
         self.refused("NoTurns", lambda: alone_behind([], None))
         self.refused("NoRow", lambda: meeting([], None))
         self.refused("NoRow", lambda: meeting(None, []))
+
+    def test_within_places(self):
+        pair, far_pair, far_row = ([], []), ([(9, 9)], []), [(9, 9)]
+        for n in (None, 0, True):
+            self.refused("NoPlaces", lambda: turn_within(n, None, None, None))
+            self.refused("NoPlaces", lambda: ends_within(n, None, None))
+            self.refused("NoPlaces", lambda: pairs_within(row=None, kind=None, n=n))
+            self.refused("NoPlaces", lambda: line_within(n, None, None))
+            self.refused("NoPlaces", lambda: pair_within(turns=-1, row=None, kind=(2, 0), n=n))
+        for kind in (None, (0, 2), (True, 0)):
+            self.refused("NoKind", lambda: turn_within(3, kind, None, None))
+            self.refused("NoKind", lambda: ends_within(3, kind, far_row))
+            self.refused("NoKind", lambda: pairs_within(3, kind, None))
+            self.refused("NoKind", lambda: line_within(pair=far_pair, kind=kind, n=3))
+            self.refused("NoKind", lambda: pair_within(3, kind, None, None))
+        for thing in (None, far_pair):
+            self.refused("NoPair", lambda: turn_within(3, (0, 1), thing, None))
+            self.refused("NoPair", lambda: line_within(3, (0, 1), thing))
+        self.refused("NoWho", lambda: turn_within(3, (0, 1), pair, None))
+        for row in (None, far_row):
+            self.refused("NoRow", lambda: ends_within(3, (1, 1), row))
+            self.refused("NoRow", lambda: pairs_within(3, (1, 1), row))
+            self.refused("NoRow", lambda: pair_within(3, (1, 1), row, None))
+        self.refused("NoTurns", lambda: pair_within(3, (1, 1), [], 1))
+        for n, kind, long in LONG_WITHIN:
+            self.refused("TooMany", lambda: line_within(n, kind, long))
+            self.refused("NoPair", lambda: line_within(n // 2, kind, long))
+            self.refused("NoKind", lambda: line_within(n, kind + (0,), long))
+            self.refused("NoPlaces", lambda: line_within(-n, kind, long))
+        self.refused("NoTurns", lambda: pair_within(FORTY, (0, 1), FIFTY_ONE[1], -1))
+
+    def test_numbers_of_pairs(self):
+        for n in (None, 0, 201, True):
+            self.refused("NoPlaces", lambda: number_of(n, None))
+            self.refused("NoPlaces", lambda: pair_of(number=None, n=n))
+            self.refused("NoPlaces", lambda: many_of(n, None))
+        self.refused("NoPair", lambda: number_of(3, None))
+        self.refused("NoPair", lambda: number_of(3, ([(4, 4)], [])))
+        self.refused("NoNumber", lambda: pair_of(3, 64))
+        self.refused("NoWord", lambda: many_of(3, "hhhh"))
+
+    def test_tables(self):
+        table, long = Table(), Table(LONG_PAIRS[0])
+        self.refused("NoPair", lambda: Table(3))
+        self.refused("NoPair", lambda: long.set_to(3))
+        for deed in (table, long):
+            self.refused("NoWho", lambda: deed.turned(None))
+            self.refused("NoWho", lambda: deed.gone(None, None))
+            self.refused("NoWho", lambda: deed.by_hand(None, None))
+            self.refused("NoTurns", lambda: deed.gone("one", None))
+            self.refused("NoPlace", lambda: deed.by_hand("one", None))
+            self.refused("NoneYet", deed.back)
+            self.refused("NoneYet", deed.again)
+        self.refused("TooMany", lambda: long.gone("one", 0))
+        self.refused("TooMany", long.line)
+        self.refused("TooMany", long.far)
+        self.refused("TooMany", long.lines)
+
+    def test_texts(self):
+        self.refused("NoRow", lambda: show_row(None))
+        self.refused("NoPair", lambda: show_pair(([(0, 1)], [])))
+        for read in (read_row, read_pair, read_deeds):
+            self.refused("NoText", lambda: read(None))
+            self.refused("NoText", lambda: read("x"))
 
 
 if __name__ == "__main__":

@@ -4,10 +4,10 @@ import copy
 import inspect
 import unittest
 from collections import namedtuple
-from enum import IntEnum
+from enum import Enum, IntEnum
 
-from tests.helper import FORTY, HALF, SOME_ROWS, THIRTY, told_pair, told_row, way_climbed, written_ways
-from turntell import alone, errors, far, ladders, lines, rows, turns
+from tests.helper import FORTY, HALF, KINDS, SOME_ROWS, THIRTY, told_pair, told_row, way_climbed, written_ways
+from turntell import alone, errors, far, kinds, ladders, lines, numbered, rows, tables, texts, turns
 
 INTERFACE = {
     rows: {
@@ -32,6 +32,21 @@ INTERFACE = {
         "step": "(row)", "steps": "(row, *, many=10)", "comers": "(row)", "runs": "(row)", "row_with": "(row)",
         "turns_alone": "(row)", "alone_behind": "(row, turns)", "meeting": "(row, other)", "halfway": "(row)",
     },
+    kinds: {
+        "turn_within": "(n, kind, pair, who)", "ends_within": "(n, kind, row)", "pairs_within": "(n, kind, row)",
+        "line_within": "(n, kind, pair)", "pair_within": "(n, kind, row, turns)",
+    },
+    numbered: {"number_of": "(n, pair)", "pair_of": "(n, number)", "many_of": "(n, text)"},
+    tables: {"Table": "(pair=None)"},
+    texts: {
+        "show_row": "(row)", "show_pair": "(pair)", "show_deeds": "(deeds)", "read_row": "(text)", "read_pair": "(text)",
+        "read_deeds": "(text)",
+    },
+}
+METHODS = {
+    "turned": "(self, who)", "gone": "(self, who, turns)", "by_hand": "(self, who, place)", "set_to": "(self, pair)",
+    "back": "(self)", "again": "(self)", "pair": "(self)", "line": "(self)", "far": "(self)", "deeds": "(self)",
+    "lines": "(self)", "twin": "(self)", "__eq__": "(self, other)", "__len__": "(self)",
 }
 BY_NAME_ALONE = {"by_turns", "steps"}
 
@@ -72,6 +87,22 @@ CALLS = [
     (alone.alone_behind, {"row": [(4, 5)], "turns": 12}, [(1, 2)]),
     (alone.meeting, {"row": [(4, 5)], "other": [(2, 2)]}, ([(1, 2)], 12, 1)),
     (alone.halfway, {"row": [(4, 5)]}, ([(5, 5)], [(5, 5)])),
+    (kinds.turn_within, {"n": 3, "kind": (0, 1), "pair": ([(1, 2)], [(1, 1)]), "who": "other"},
+     ([(1, 2)], [(1, 1), (3, 3)])),
+    (kinds.ends_within, {"n": 3, "kind": (0, 1), "row": [(1, 1)]}, (([(1, 1)], []), ([(1, 3)], [(1, 2)]))),
+    (kinds.pairs_within, {"n": 3, "kind": (1, 0), "row": [(1, 2)]}, 11),
+    (kinds.line_within, {"n": 2, "kind": (1, 1), "pair": ([(1, 1)], [(1, 1)])}, ([(1, 1)], 1)),
+    (kinds.pair_within, {"n": 2, "kind": (1, 1), "row": [(2, 2)], "turns": 2}, ([], [(1, 1)])),
+    (numbered.number_of, {"n": 2, "pair": ([(1, 1)], [(1, 1)])}, 9),
+    (numbered.pair_of, {"n": 2, "number": 9}, ([(1, 1)], [(1, 1)])),
+    (numbered.many_of, {"n": 3, "text": "ht"}, 20),
+    (tables.Table, {"pair": ([(1, 2)], [])}, tables.Table([[(1, 2)], []])),
+    (texts.show_row, {"row": [(1, 2), (4, 4)]}, "1-2,4"),
+    (texts.show_pair, {"pair": ([(1, 2)], [])}, "1-2|-"),
+    (texts.show_deeds, {"deeds": [("turned", "one"), ("by_hand", "other", 3)]}, "turn 1\nhand 2 3\n"),
+    (texts.read_row, {"text": "1-2,4"}, [(1, 2), (4, 4)]),
+    (texts.read_pair, {"text": "1-2|-"}, ([(1, 2)], [])),
+    (texts.read_deeds, {"text": "go 2 0\nset -|3\n"}, [("gone", "other", 0), ("set_to", ([], [(3, 3)]))]),
 ]
 
 
@@ -102,6 +133,27 @@ def asked_far(pair):
     return told
 
 
+def asked_within(pair):
+    """All that is asked of a pair within places, by number, on a Table and by text."""
+    one, other = pair
+    told = []
+    for kind in KINDS:
+        for given in (kind, list(kind)):
+            for n in (5, 2 * FORTY):
+                told += [answer(kinds.turn_within, n, given, pair, who) for who in ("one", "other")]
+                told += [answer(kinds.ends_within, n, given, one), answer(kinds.pairs_within, n, given, one),
+                         answer(kinds.line_within, n, given, pair), answer(kinds.pair_within, n, given, one, 1),
+                         answer(kinds.pair_within, n, given, one, 0)]
+    told += [answer(numbered.number_of, 150, pair), texts.show_row(one), texts.show_pair(pair),
+             texts.show_deeds([["set_to", pair]]), texts.show_deeds((("set_to", pair), ("turned", "one")))]
+    table = tables.Table(pair)
+    table.turned("other")
+    table.set_to(pair)
+    table.by_hand("one", 3)
+    told += [table.pair(), table.deeds(), len(table), table.twin().deeds(), table == tables.Table(pair)]
+    return told + [answer(ask) for ask in (table.line, table.far, table.lines)]
+
+
 def asked_all(pair, first, many):
     """All that is asked of a pair, by one list each."""
     one, other = pair
@@ -109,7 +161,7 @@ def asked_all(pair, first, many):
             rows.shows(one, 3), rows.turned_over(one, 3), rows.turned_over(one, 0), rows.about(one, FORTY),
             rows.turned_over(other, 1), turns.turn(pair, "one"), turns.turn(pair, "other"), turns.rests(pair),
             turns.done(pair, "1221"), turns.done(pair, ""), turns.by_turns(pair, first=first, many=many)]
-    return told + asked_far(pair) + ([rows.nth(one, 1)] if one else [])
+    return told + asked_far(pair) + asked_within(pair) + ([rows.nth(one, 1)] if one else [])
 
 
 def lists_in(thing):
@@ -136,6 +188,25 @@ class Interface(unittest.TestCase):
                     deed = getattr(module, name)
                     self.assertEqual(str(inspect.signature(deed)), arguments)
                     self.assertEqual(deed.__module__, module.__name__)
+
+    def test_methods_of_the_table(self):
+        found = {name for name in vars(tables.Table) if not name.startswith("_")} | {"__eq__", "__len__"}
+        self.assertEqual(found, set(METHODS))
+        for name, arguments in METHODS.items():
+            with self.subTest(name):
+                self.assertEqual(str(inspect.signature(vars(tables.Table)[name])), arguments)
+
+    def test_methods_by_names_and_by_places(self):
+        deeds = [("turned", {"who": "one"}), ("gone", {"who": "other", "turns": 3}), ("set_to", {"pair": ([], [(2, 2)])}),
+                 ("by_hand", {"who": "one", "place": 4}), ("back", {}), ("again", {})]
+        told = [tables.Table(), tables.Table(), tables.Table()]
+        for name, named in deeds:
+            for table, call in zip(told, [lambda deed: deed(**named), lambda deed: deed(*named.values()),
+                                          lambda deed: deed(**dict(reversed(named.items())))]):
+                self.assertIsNone(call(getattr(table, name)))
+        self.assertEqual(told[0].pair(), ([(4, 4)], [(2, 2)]))
+        self.assertTrue(told[0] == told[1] == told[2])
+        self.assertEqual([table.deeds() for table in told], [told[0].deeds()] * 3)
 
     def test_by_names_and_by_places(self):
         self.assertEqual({deed.__name__ for deed, _, _ in CALLS} | BY_NAME_ALONE,
@@ -210,6 +281,15 @@ class Told(unittest.TestCase):
             calls = [lambda deed=deed: deed(pair[0]) for deed in
                      (alone.step, alone.steps, alone.comers, alone.runs, alone.row_with, alone.halfway)]
             calls += [lambda far_on=far_on: far.pair_behind(pair, "one", far_on) for far_on in (0, 1, 9)]
+            for kind in KINDS:
+                calls += [lambda kind=kind: kinds.turn_within(5, kind, pair, "one"),
+                          lambda kind=kind: kinds.turn_within(5, kind, pair, "other"),
+                          lambda kind=kind: kinds.ends_within(5, kind, pair[0]),
+                          lambda kind=kind: kinds.line_within(5, kind, pair),
+                          lambda kind=kind: kinds.pair_within(5, kind, pair[0], 0)]
+            calls += [lambda: numbered.pair_of(5, 0), lambda: numbered.pair_of(5, 777), lambda: tables.Table(pair).pair(),
+                      lambda: tables.Table(pair).line(), lambda: tables.Table(pair).lines(), lambda: texts.read_row("-"),
+                      lambda: texts.read_pair("-|3"), lambda: texts.read_deeds("set -|-\nturn 1\n")]
             for call in calls + [
                          lambda: lines.line_of(pair), lambda: far.pair_at(pair[0], 0), lambda: ladders.row_by(5, 11),
                          lambda: far.pair_at(pair[1], ladders.way_of(pair[1])), lambda: ladders.row_by(1, 1),
@@ -234,7 +314,13 @@ class Told(unittest.TestCase):
                          lines.line_of(pair), far.pair_at(row, 0), far.pair_at([], 0), far.pair_behind(pair, "one", 0),
                          far.pair_behind(pair, "other", 5), alone.step(pair[0]), alone.steps(pair[0], many=30),
                          alone.comers(pair[0]), alone.meeting(pair[0], pair[1]), alone.halfway(pair[0]),
-                         alone.runs(pair[0]), alone.row_with(pair[0]), alone.alone_behind(pair[0], 0)]:
+                         alone.runs(pair[0]), alone.row_with(pair[0]), alone.alone_behind(pair[0], 0),
+                         [kinds.ends_within(5, kind, pair[0]) for kind in KINDS],
+                         [kinds.turn_within(5, kind, pair, who) for kind in KINDS for who in ("one", "other")],
+                         [kinds.line_within(5, kind, pair) for kind in KINDS],
+                         [kinds.pair_within(5, kind, pair[0], 0) for kind in KINDS],
+                         numbered.pair_of(5, 0), tables.Table(pair).pair(), tables.Table(pair).line(),
+                         texts.read_pair("-|-"), texts.read_deeds("set -|-\nset -|-\n")]:
                 found = [id(one) for one in lists_in(told)]
                 self.assertEqual(len(found), len(set(found)))
                 self.assertFalse(handed & set(found))
@@ -258,8 +344,18 @@ class Told(unittest.TestCase):
             self.assertTrue(told_row(told))
         for told in [turns.turn(pair, "one"), turns.turn(pair, "other"), turns.done(pair, ""), far.pair_at(row, 0),
                      far.pair_at(row, 5), far.pair_behind(pair, "one", 0), far.pair_behind(pair, "one", 1),
-                     alone.halfway(row)]:
+                     alone.halfway(row), tables.Table(pair).pair(), numbered.pair_of(9, 5), texts.read_pair("3|-")]:
             self.assertTrue(told_pair(told))
+        for kind in KINDS:
+            given = list(kind)
+            ends = kinds.ends_within(9, given, row)
+            self.assertIs(type(ends), tuple)
+            for told in [kinds.turn_within(9, given, pair, "one"), kinds.turn_within(9, given, pair, "other"),
+                         kinds.pair_within(9, given, row, 1), *ends]:
+                self.assertTrue(told_pair(told))
+            self.assertIs(type(kinds.line_within(9, given, pair)), tuple)
+            self.assertTrue(told_row(kinds.line_within(9, given, pair)[0]))
+            self.assertIs(type(kinds.pairs_within(9, given, row)), int)
         for told in [alone.steps(row), alone.comers(row)]:
             self.assertIs(type(told), list)
             self.assertTrue(all(map(told_row, told)))
@@ -308,6 +404,11 @@ class Wholes(unittest.TestCase):
         self.assertEqual(rows.heads_to([span(1, 2)], few.ONE), 1)
         self.assertEqual(rows.turned_over([span(1, 2)], few.TWO), [(1, 1)])
         self.assertTrue(told_pair(turns.turn(span([], []), "one")))
+        wordy = Enum("wordy", "ONE TWO", type=int)
+        for some in (few, wordy):
+            self.assertEqual(texts.show_row([span(some.ONE, some.TWO), (4, 4)]), "1-2,4")
+            self.assertEqual(texts.show_deeds([("gone", "one", some.TWO)]), "go 1 2\n")
+        self.assertEqual(kinds.pairs_within(few.TWO, span(0, few.ONE), [span(few.TWO, few.TWO)]), 3)
 
     def test_truths_are_no_whole_numbers(self):
         row = [(1, 2)]
@@ -320,6 +421,14 @@ class Wholes(unittest.TestCase):
                 (errors.NoPlaces, lambda: ladders.ladder([], truth)), (errors.NoNumber, lambda: ladders.row_by(truth, 1)),
                 (errors.NoNumber, lambda: ladders.row_by(1, truth)), (errors.NoTurns, lambda: far.pair_at(row, truth)),
                 (errors.NoTurns, lambda: far.pair_behind((row, row), "one", truth)),
+                (errors.NoPlaces, lambda: kinds.pairs_within(truth, (0, 0), [])),
+                (errors.NoKind, lambda: kinds.pairs_within(1, (truth, 0), [])),
+                (errors.NoKind, lambda: kinds.pairs_within(1, (0, truth), [])),
+                (errors.NoTurns, lambda: kinds.pair_within(1, (0, 0), [], truth)),
+                (errors.NoPlaces, lambda: numbered.many_of(truth, "")),
+                (errors.NoNumber, lambda: numbered.pair_of(1, truth)),
+                (errors.NoTurns, lambda: tables.Table().gone("one", truth)),
+                (errors.NoPlace, lambda: tables.Table().by_hand("one", truth)),
                 (errors.NoNumber, lambda: alone.steps(row, many=truth)),
                 (errors.NoTurns, lambda: alone.alone_behind(row, truth)),
             ]:

@@ -20,6 +20,12 @@ LIBRARY = {
     "itertools": {"product", "combinations", "permutations", "chain", "accumulate", "pairwise", "islice", "zip_longest"},
     "collections": {"defaultdict", "deque"},
 }
+METHODS = set(
+    "append clear copy count endswith extend find get index insert isalnum isalpha isdigit islower isspace isupper items"
+    " join keys ljust lower lstrip partition pop remove replace reverse rfind rjust rpartition rsplit rstrip setdefault"
+    " split splitlines startswith strip update upper values zfill bit_length".split()
+)
+DOUBLE = {"__init__", "__eq__", "__len__"}
 BARRED = (ast.Global, ast.AsyncFunctionDef, ast.Await, ast.Div, ast.Import, ast.Starred, ast.GeneratorExp)
 BARRED_NAMES = {"register", "mro", "elements", "open", "input", "law", "version_info", "with_traceback", "add_note"}
 
@@ -81,6 +87,30 @@ class Words(unittest.TestCase):
                             if isinstance(part, (ast.FunctionDef, ast.ClassDef, ast.Assign))
                         }
                         self.assertLessEqual(names, defined)
+
+    def test_no_circles_of_imports(self):
+        imports = {
+            "turntell." + path.stem: {node.module for node in tree.body if isinstance(node, ast.ImportFrom)}
+            for path, tree in trees()
+        }
+        left = dict(imports)
+        while left:
+            free = [name for name, wanted in left.items() if not wanted & set(left)]
+            self.assertNotEqual(free, [], sorted(left))
+            left = {name: wanted for name, wanted in left.items() if name not in free}
+
+    def test_methods(self):
+        own = {deed.name for _, tree in trees() for part in tree.body if isinstance(part, ast.ClassDef)
+               for deed in functions(part)}
+        self.assertEqual({name for name in own if name.startswith("__")}, DOUBLE)
+        stored = set()
+        for path, tree in trees():
+            for node in ast.walk(tree):
+                if isinstance(node, ast.Attribute) and isinstance(node.ctx, ast.Store):
+                    stored.add(node.attr)
+                if isinstance(node, ast.Call) and isinstance(node.func, ast.Attribute):
+                    self.assertIn(node.func.attr, METHODS | own, f"{path.name}:{node.lineno}")
+        self.assertEqual(stored & (own | METHODS), set())
 
     def test_barred_statements(self):
         for path, tree in trees():
